@@ -1,0 +1,1 @@
+"""Pinshelf: books between pins."""
