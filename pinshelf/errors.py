@@ -9,7 +9,7 @@ class BadShelf(ShelfError):
     """A shelf that can't be."""
 
     def __init__(self, part, number):
-        super().__init__(f"part {part}, number {number}")
+        ShelfError.__init__(self, f"part {part}, number {number}")
         self.part = part
         self.number = number
 
@@ -18,7 +18,7 @@ class BadGoal(ShelfError):
     """A goal that can't be."""
 
     def __init__(self, number):
-        super().__init__(f"number {number}")
+        ShelfError.__init__(self, f"number {number}")
         self.number = number
 
 
@@ -26,7 +26,7 @@ class BadWish(ShelfError):
     """A wish that can't be."""
 
     def __init__(self, number):
-        super().__init__(f"number {number}")
+        ShelfError.__init__(self, f"number {number}")
         self.number = number
 
 
@@ -34,7 +34,7 @@ class BadWay(ShelfError):
     """A list of deeds that can't be done."""
 
     def __init__(self, number, why):
-        super().__init__(f"number {number}, {why}")
+        ShelfError.__init__(self, f"number {number}, {why}")
         self.number = number
         self.why = why
 
@@ -55,7 +55,7 @@ class Halted(ShelfError):
     """A batch that was halted."""
 
     def __init__(self, number, done):
-        super().__init__(f"number {number}, done {done}")
+        ShelfError.__init__(self, f"number {number}, done {done}")
         self.number = number
         self.done = done
 
@@ -64,5 +64,5 @@ class BadText(ShelfError):
     """A text that is no shelf by its words."""
 
     def __init__(self, row):
-        super().__init__(f"row {row}")
+        ShelfError.__init__(self, f"row {row}")
         self.row = row
