@@ -25,10 +25,14 @@ def why_not(shelf, deed):
     return None
 
 
-def check_deeds(shelf, deeds):
-    """Refuse deeds that can't be done on this shelf, which is checked already."""
+def check_list(deeds):
     if not isinstance(deeds, list):
         raise BadWay(number=0, why="form")
+
+
+def check_deeds(shelf, deeds):
+    """Refuse deeds that can't be done on this shelf, which is checked already."""
+    check_list(deeds)
     # Where the books stand by then doesn't matter to whether a deed can be.
     for number, deed in enumerate(deeds):
         why = why_not(shelf, deed)
@@ -47,13 +51,18 @@ def lots_behind(lots, deed):
     return tuple([tuple(row) for row in rows])
 
 
-def done(shelf, deeds):
-    """Tell (the lots behind all of the deeds, done in turn, what they cost)."""
-    check_shelf(shelf)
-    check_deeds(shelf, deeds)
+def outcome(shelf, deeds):
+    """Tell what done does, of a shelf and deeds that are checked already."""
     prices, lots = shelf
     cost = 0
     for deed in deeds:
         lots = lots_behind(lots, deed)
         cost += prices[deed[0]]
     return lots, cost
+
+
+def done(shelf, deeds):
+    """Tell (the lots behind all of the deeds, done in turn, what they cost)."""
+    check_shelf(shelf)
+    check_deeds(shelf, deeds)
+    return outcome(shelf, deeds)

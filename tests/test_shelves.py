@@ -1,10 +1,14 @@
-"""Points 2 and 3: what a shelf and a goal are, and how others are refused."""
+"""Points 2 and 3: what a shelf and a goal are, and how others are refused by all that take them."""
 
 import unittest
 
 from pinshelf.deeds import done
+from pinshelf.desks import Desk
 from pinshelf.errors import BadGoal, BadShelf
+from pinshelf.least import fewest, judged, least, spare, ways
+from pinshelf.notes import written
 from pinshelf.stretches import barred, stays
+from pinshelf.wishes import cheapest
 
 SHELF = ((3, None, 7, 1), ((0, 1), (), (2, 3)))
 GOOD_PRICES = (1, 2, 3)
@@ -18,6 +22,14 @@ class Shelves(unittest.TestCase):
             "done": lambda: done(shelf, None),
             "stays": lambda: stays(shelf, None),
             "barred": lambda: barred(shelf, None),
+            "least": lambda: least(shelf, None),
+            "fewest": lambda: fewest(shelf, None),
+            "ways": lambda: ways(shelf, None),
+            "judged": lambda: judged(shelf, None, None),
+            "spare": lambda: spare(shelf, None),
+            "cheapest": lambda: cheapest(shelf, None),
+            "Desk": lambda: Desk(shelf),
+            "written": lambda: written(shelf),
         }
         for name, call in calls.items():
             with self.subTest(name, shelf=shelf):
@@ -31,6 +43,9 @@ class Shelves(unittest.TestCase):
             self.assertEqual(done(shelf, []), (lots, 0))
             self.assertIsNone(barred(shelf, lots))
             self.assertEqual(stays(shelf, lots), [[(0, len(lot))] if lot else [] for lot in lots])
+            self.assertEqual(least(shelf, lots), (0, []))
+            self.assertEqual(cheapest(shelf, (None,) * len(shelf[0])), (0, lots))
+            self.assertEqual(Desk(shelf).shelf(), shelf)
 
     def test_no_tuple_of_two(self):
         for shelf in (None, 5, "shelf", True, [], [GOOD_PRICES, GOOD_LOTS], (), (GOOD_PRICES,),
@@ -120,9 +135,18 @@ class Shelves(unittest.TestCase):
         self.let_by(((None,) * 12, ((3, 2, 1, 0), (11, 10, 9, 8, 7, 6, 5, 4))))
 
 
+def judged_alone(shelf, goal):
+    return judged(shelf, goal, None)
+
+
+def laid(shelf, goal):
+    return Desk(shelf).lay(goal)
+
+
 class Goals(unittest.TestCase):
     def refused(self, goal, number, shelf=SHELF):
-        for call in (stays, barred):
+        """Each function that is handed a goal refuses it, ahead of what comes behind it."""
+        for call in (stays, barred, least, fewest, ways, spare, judged_alone, laid):
             with self.subTest(call.__name__, goal=goal):
                 with self.assertRaises(BadGoal) as caught:
                     call(shelf, goal)
